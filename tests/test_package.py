@@ -1,0 +1,51 @@
+"""The interface: files, names and arguments, and a package that binds nothing."""
+
+import ast
+import importlib
+import inspect
+import pathlib
+import unittest
+
+FOLDER = pathlib.Path(__file__).resolve().parent.parent / "trueline"
+
+# File by file, each drawing on those ahead of it alone.
+FUNCTIONS = {
+    "errors": {},
+    "ratios": {
+        "ratio": ["top", "under"], "plus": ["one", "other"], "minus": ["one", "other"],
+        "times": ["one", "other"], "over": ["one", "other"], "is_ratio": ["thing"], "order_of": ["one", "other"],
+    },
+    "numbers": {
+        "is_width": ["thing"], "is_number": ["thing", "width"], "is_measure": ["thing", "width"],
+        "value": ["number"], "near": ["given", "width"], "lower": ["given", "width"], "upper": ["given", "width"],
+        "next_up": ["number", "width"], "next_down": ["number", "width"], "opposite": ["number"],
+    },
+}
+
+
+class Interface(unittest.TestCase):
+    def test_the_init_binds_nothing(self):
+        tree = ast.parse((FOLDER / "__init__.py").read_text())
+        self.assertEqual([row for row in tree.body if not isinstance(row, ast.Expr)], [])
+
+    def test_functions_and_their_arguments(self):
+        for name, functions in FUNCTIONS.items():
+            module = importlib.import_module("trueline." + name)
+            self.assertEqual(pathlib.Path(module.__file__), FOLDER / (name + ".py"))
+            for function, arguments in functions.items():
+                signature = inspect.signature(getattr(module, function))
+                self.assertEqual(list(signature.parameters), arguments, function)
+                for parameter in signature.parameters.values():
+                    self.assertIs(parameter.default, inspect.Parameter.empty)
+
+    def test_each_file_draws_on_those_ahead(self):
+        order = list(FUNCTIONS)
+        for place, name in enumerate(order):
+            tree = ast.parse((FOLDER / (name + ".py")).read_text())
+            drawn = [row.module for row in tree.body if isinstance(row, ast.ImportFrom)]
+            for module in drawn:
+                self.assertIn(module, ["trueline." + ahead for ahead in order[:place]])
+
+
+if __name__ == "__main__":
+    unittest.main()
