@@ -154,6 +154,29 @@ class Form(unittest.TestCase):
             self.assertEqual(node.decorator_list, [], place)
             self.assertIsNone(node.returns, place)
 
+    def test_no_local_is_called_like_an_import_or_a_class(self):
+        for name, tree in self.trees.items():
+            taken = {drawn.name for row in tree.body if isinstance(row, ast.ImportFrom) for drawn in row.names}
+            taken |= {row.name for row in tree.body if isinstance(row, (ast.ClassDef, ast.FunctionDef))}
+            for function in [row for row in ast.walk(tree) if isinstance(row, (ast.FunctionDef, ast.Lambda))]:
+                bound = {argument.arg for argument in function.args.args}
+                bound |= {node.id for node in ast.walk(function)
+                          if isinstance(node, ast.Name) and isinstance(node.ctx, ast.Store)}
+                self.assertEqual(sorted(bound & taken), [], f"{name}:{function.lineno}")
+
+    def test_lists_are_walked_at_once(self):
+        lazy = {"zip", "enumerate", "reversed", "range"}
+        walkers = {"list", "tuple", "dict", "sorted", "sum", "any", "all", "enumerate", "zip", "min", "max"}
+        for name, tree in self.trees.items():
+            walked = []
+            for node in ast.walk(tree):
+                walked += [node.iter] if isinstance(node, (ast.For, ast.comprehension)) else []
+                if isinstance(node, ast.Call) and isinstance(node.func, ast.Name) and node.func.id in walkers:
+                    walked += node.args[:1]
+            for node in ast.walk(tree):
+                if isinstance(node, ast.Call) and isinstance(node.func, ast.Name) and node.func.id in lazy:
+                    self.assertTrue(any(node is one for one in walked), f"{name}:{node.lineno}")
+
     def test_classes(self):
         for place, node in self.nodes(ast.ClassDef):
             self.assertEqual(node.decorator_list, [], place)

@@ -6,6 +6,7 @@ import random
 import unittest
 from fractions import Fraction
 
+from helper import around, exact, form_of, last_digit, nearest, sample_numbers, told
 from trueline.errors import NoNext, TrueError
 from trueline.numbers import (
     is_measure, is_number, is_width, lower, near, next_down, next_up, opposite, upper, value,
@@ -16,68 +17,6 @@ OTHER_SORTS = [
     None, "", "8", "53", "(1, 0)", (), (1,), (1, 0, 0), (0, 0, 0), ((1, 0),), ((1, 0), 0), (1, (0, 0)),
     [], [1, 0], [0, 0], [(1, 0)], (None, 0), (1, None), ("1", 0), (1, "0"), ([1], 0), (1, [0]), [[]], (((),),),
 ]
-
-
-def told(fraction):
-    return (fraction.numerator, fraction.denominator)
-
-
-def exact(number):
-    return Fraction(number[0]) * Fraction(2) ** number[1]
-
-
-def form_of(fraction):
-    """The one form of a fraction whose under is a power of two."""
-    top, under = fraction.numerator, fraction.denominator
-    if top == 0:
-        return (0, 0)
-    power = -(under.bit_length() - 1)
-    while top % 2 == 0:
-        top //= 2
-        power += 1
-    return (top, power)
-
-
-def step_at(size, width):
-    """What the last digit of a size counts for, found by comparing alone."""
-    step = Fraction(1)
-    while step * 2 ** width <= size:
-        step *= 2
-    while step * 2 ** (width - 1) > size:
-        step /= 2
-    return step
-
-
-def last_digit(number, width):
-    digits = bin(abs(number[0]))[2:]
-    return digits.ljust(width, "0")[width - 1]
-
-
-def around(given, width):
-    """The greatest number not above, the least not below, as fractions."""
-    if given == 0:
-        return Fraction(0), Fraction(0)
-    step = step_at(abs(given), width)
-    return (given // step) * step, -((-given) // step) * step
-
-
-def nearest(given, width):
-    below, above = around(given, width)
-    if given - below != above - given:
-        return form_of(below if given - below < above - given else above)
-    chosen = [side for side in (below, above) if last_digit(form_of(side), width) == "0"]
-    return form_of(chosen[0])
-
-
-def sample_numbers(width):
-    """Numbers of a width: powers of two, the greatest whole, those beside these, others."""
-    greatest = 2 ** width - 1
-    wholes = [1, 3, 5, 2 ** (width - 1) - 1, 2 ** (width - 1) + 1, greatest, greatest - 2]
-    dice = random.Random(width)
-    wholes += [dice.randrange(0, 2 ** (width - 1)) * 2 + 1 for _ in range(10)]
-    wholes += [dice.randrange(0, 2 ** 5) * 2 + 1 for _ in range(4)]
-    powers = [-1300, -1299, -200, -61, -1, 0, 1, 60, 333, 1299, 1300]
-    return [(sign * whole, power) for whole in wholes for power in powers for sign in (1, -1)]
 
 
 class Widths(unittest.TestCase):

@@ -20,6 +20,21 @@ FUNCTIONS = {
         "value": ["number"], "near": ["given", "width"], "lower": ["given", "width"], "upper": ["given", "width"],
         "next_up": ["number", "width"], "next_down": ["number", "width"], "opposite": ["number"],
     },
+    "reckon": {
+        "added": ["one", "other", "width"], "taken": ["one", "other", "width"],
+        "multiplied": ["one", "other", "width"], "divided": ["one", "other", "width"], "root": ["given", "width"],
+        "rest_by_steps": ["one", "other", "width"], "sum_rest": ["one", "other", "width"],
+        "product_rest": ["one", "other", "width"], "halves": ["number", "width", "few"],
+    },
+    "heaps": {
+        "grown": ["row", "number", "width"], "kept_whole": ["row", "width"], "is_apart": ["row"], "sign_of": ["row"],
+    },
+    "quick": {"quick_sum": ["row", "width"], "quick_dot": ["row", "other", "width"]},
+    "truth": {
+        "exact_sum": ["row"], "exact_dot": ["row", "other"], "exact_mean": ["row"], "exact_spread": ["row"],
+        "true_sum": ["row", "width"], "true_dot": ["row", "other", "width"], "true_mean": ["row", "width"],
+        "true_spread": ["row", "width"], "true_deviation": ["row", "width"],
+    },
 }
 
 
@@ -27,6 +42,10 @@ class Interface(unittest.TestCase):
     def test_the_init_binds_nothing(self):
         tree = ast.parse((FOLDER / "__init__.py").read_text())
         self.assertEqual([row for row in tree.body if not isinstance(row, ast.Expr)], [])
+
+    def test_each_file_is_known_here(self):
+        names = sorted(path.stem for path in FOLDER.glob("*.py"))
+        self.assertEqual(names, sorted(["__init__"] + list(FUNCTIONS)))
 
     def test_functions_and_their_arguments(self):
         for name, functions in FUNCTIONS.items():

@@ -1,0 +1,129 @@
+"""What the tests reckon by: exact fractions, and numbers of a width found by comparing alone."""
+
+import math
+import random
+from fractions import Fraction
+
+WIDTHS = (8, 9, 53, 64)
+
+
+def told(fraction):
+    return (fraction.numerator, fraction.denominator)
+
+
+def exact(number):
+    return Fraction(number[0]) * Fraction(2) ** number[1]
+
+
+def form_of(fraction):
+    """The one form of a fraction whose under is a power of two."""
+    top, under = fraction.numerator, fraction.denominator
+    if top == 0:
+        return (0, 0)
+    power = -(under.bit_length() - 1)
+    while top % 2 == 0:
+        top //= 2
+        power += 1
+    return (top, power)
+
+
+def step_at(size, width):
+    """What the last digit of a size counts for: guessed by lengths, then found by comparing."""
+    step = Fraction(2) ** (size.numerator.bit_length() - size.denominator.bit_length() - width)
+    while step * 2 ** width <= size:
+        step *= 2
+    while step * 2 ** (width - 1) > size:
+        step /= 2
+    return step
+
+
+def last_digit(number, width):
+    digits = bin(abs(number[0]))[2:]
+    return digits.ljust(width, "0")[width - 1]
+
+
+def around(given, width):
+    """The greatest number not above, the least not below, as fractions."""
+    if given == 0:
+        return Fraction(0), Fraction(0)
+    step = step_at(abs(given), width)
+    return (given // step) * step, -((-given) // step) * step
+
+
+def of_two(below, above, stands, width):
+    """The nearer one, stands telling how what is asked for stands to the midst of both."""
+    if stands != 0:
+        return form_of(below if stands < 0 else above)
+    chosen = [side for side in (below, above) if last_digit(form_of(side), width) == "0"]
+    return form_of(chosen[0])
+
+
+def nearest(given, width):
+    below, above = around(given, width)
+    if below == above:
+        return form_of(below)
+    return of_two(below, above, (given - below) - (above - given), width)
+
+
+def nearest_root(given, width):
+    """The number nearest to the root of a fraction, squares being compared alone."""
+    if given == 0:
+        return (0, 0)
+    step = Fraction(2) ** ((given.numerator.bit_length() - given.denominator.bit_length()) // 2 - width)
+    while (step * 2 ** width) ** 2 <= given:
+        step *= 2
+    while (step * 2 ** (width - 1)) ** 2 > given:
+        step /= 2
+    below = math.isqrt(given // step ** 2) * step
+    if below * below == given:
+        return form_of(below)
+    return of_two(below, below + step, given - (below + step / 2) ** 2, width)
+
+
+def sample_wholes(width):
+    """Odd wholes: the least, the greatest, those beside the middle one, others."""
+    greatest = 2 ** width - 1
+    wholes = [1, 3, 5, 2 ** (width - 1) - 1, 2 ** (width - 1) + 1, greatest, greatest - 2]
+    dice = random.Random(width)
+    wholes += [dice.randrange(0, 2 ** (width - 1)) * 2 + 1 for _ in range(10)]
+    wholes += [dice.randrange(0, 2 ** 5) * 2 + 1 for _ in range(4)]
+    return wholes
+
+
+def sample_numbers(width):
+    """Numbers of a width: powers of two, the greatest whole, those beside these, others."""
+    powers = [-1300, -1299, -200, -61, -1, 0, 1, 60, 333, 1299, 1300]
+    return [(sign * whole, power) for whole in sample_wholes(width) for power in powers for sign in (1, -1)]
+
+
+def some_number(dice, width, least, greatest):
+    """A number of a width by chance, its first digit from two to the least to below two to the greatest."""
+    size = dice.choice((1, 2, width // 2, width - 1, width, width, width))
+    whole = dice.randrange(2 ** (size - 1), 2 ** size) | 1
+    first = dice.randrange(least, greatest)
+    return (dice.choice((1, -1)) * whole, first - whole.bit_length() + 1)
+
+
+def sample_measures(width):
+    """Measures of a width: the ends, numbers beside them, others."""
+    greatest, beyond = 2 ** width - 1, 2 ** (width - 1) + 1
+    sizes = [(1, 60), (1, -60), (greatest, 60 - width), (beyond, -59 - width), (1, 0), (3, 58), (3, -61)]
+    sizes += [(greatest, 0), (beyond, 0), (greatest, -width)] if width < 60 else [(greatest, -width)]
+    return [(sign * whole, power) for whole, power in sizes for sign in (1, -1)]
+
+
+def sample_rows(width):
+    """Rows of 1 to 60 measures: of one size, far apart, much cancelling, noughts among, all alike, at the ends."""
+    dice = random.Random(width + 50)
+    rows = [[(0, 0)], [(1, 60)], [(-1, -60)], sample_measures(width)]
+    for length in (1, 2, 3, 17, 60):
+        rows.append([some_number(dice, width, -60, 60) for _ in range(length)])
+        rows.append([some_number(dice, width, 0, 2) for _ in range(length)])
+        half = [some_number(dice, width, -60, 60) for _ in range(length)]
+        rows.append((half + [(-whole, power) for whole, power in half])[length // 2:length // 2 + length])
+        rows.append([dice.choice(((0, 0), some_number(dice, width, -9, 9))) for _ in range(length)])
+        rows.append([(2 ** width - 1, -width)] * length)
+        rows.append([((-1) ** place, dice.choice((60, -60))) for place in range(length)])
+        rows.append([(1, 60)] + [some_number(dice, width, -60, -50) for _ in range(length - 1)])
+        rows.append(([(1, 60)] + [some_number(dice, width, -9, 9) for _ in range(length - 2)] + [(-1, 60)])[-length:])
+    return rows
