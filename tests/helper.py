@@ -1,5 +1,6 @@
 """What the tests reckon by: exact fractions, and numbers of a width found by comparing alone."""
 
+import copy
 import math
 import random
 from fractions import Fraction
@@ -13,6 +14,14 @@ def told(fraction):
 
 def exact(number):
     return Fraction(number[0]) * Fraction(2) ** number[1]
+
+
+def fractions(row):
+    return [exact(number) for number in row]
+
+
+def opposites(row):
+    return [(-whole, power) for whole, power in row]
 
 
 def form_of(fraction):
@@ -127,3 +136,56 @@ def sample_rows(width):
         rows.append([(1, 60)] + [some_number(dice, width, -60, -50) for _ in range(length - 1)])
         rows.append(([(1, 60)] + [some_number(dice, width, -9, 9) for _ in range(length - 2)] + [(-1, 60)])[-length:])
     return rows
+
+
+def some_row(dice, width, length, least, greatest):
+    return [some_number(dice, width, least, greatest) for _ in range(length)]
+
+
+def some_table(dice, width, rows, columns, least, greatest):
+    return [some_row(dice, width, columns, least, greatest) for _ in range(rows)]
+
+
+def little_table(dice, rows, columns):
+    """Of whole numbers from -2 to 2, so that many are alike, nought or opposite."""
+    return [[form_of(Fraction(dice.randrange(-2, 3))) for _ in range(columns)] for _ in range(rows)]
+
+
+def sample_tables(width):
+    """Tables of 1 to 60 rows and 1 to 6 columns: of one size, far apart, little ones, at the ends, all alike."""
+    dice = random.Random(width + 70)
+    tables = []
+    for rows, columns in ((1, 1), (1, 6), (60, 1), (60, 6), (2, 2), (3, 3), (4, 4), (6, 6), (2, 5), (5, 2), (6, 3)):
+        tables.append(some_table(dice, width, rows, columns, -60, 60))
+        tables.append(some_table(dice, width, rows, columns, 0, 2))
+        tables.append(little_table(dice, rows, columns))
+        tables.append([[dice.choice(sample_measures(width)) for _ in range(columns)] for _ in range(rows)])
+        tables.append([[dice.choice(((0, 0), (2 ** width - 1, -width)))] * columns for _ in range(rows)])
+    return tables
+
+
+def asked(case, function, *things):
+    """What a function tells, or its refusal, what is handed in staying as it was."""
+    before = copy.deepcopy(things)
+    try:
+        return function(*things)
+    finally:
+        case.assertEqual(things, before, function.__name__)
+
+
+def refused(case, kind, function, *things):
+    """The refusal, of that very class."""
+    with case.assertRaises(kind) as caught:
+        asked(case, function, *things)
+    case.assertIs(type(caught.exception), kind)
+    return caught.exception
+
+
+def check_weights(case, weights, lists):
+    """Whole numbers in lowest terms, the first that isn't 0 above 0, that bring the lists to nought at each place."""
+    case.assertIs(type(weights), list)
+    case.assertEqual([type(weight) for weight in weights], [int] * len(lists))
+    case.assertEqual(math.gcd(*weights), 1, weights)
+    case.assertGreater([weight for weight in weights if weight != 0][0], 0, weights)
+    for numbers in zip(*lists, strict=True):
+        case.assertEqual(sum([weight * exact(number) for weight, number in zip(weights, numbers)]), 0, weights)

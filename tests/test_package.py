@@ -35,6 +35,16 @@ FUNCTIONS = {
         "true_sum": ["row", "width"], "true_dot": ["row", "other", "width"], "true_mean": ["row", "width"],
         "true_spread": ["row", "width"], "true_deviation": ["row", "width"],
     },
+    "tables": {
+        "is_row": ["thing", "width"], "is_table": ["thing", "width"], "column": ["table", "place"],
+        "turned": ["table"], "product": ["table", "other", "width"], "ordered": ["table", "place"],
+        "least_place": ["table"], "rising": ["row"], "middle": ["row", "width"],
+    },
+    "solving": {"determinant": ["rows"], "solved": ["rows", "right"]},
+    "fits": {
+        "line_of": ["row", "other"], "fitted": ["table", "places", "target"],
+        "residues": ["table", "places", "target", "parts"], "misses": ["table", "places", "target", "parts"],
+    },
 }
 
 

@@ -6,7 +6,9 @@ import random
 import unittest
 from fractions import Fraction
 
-from helper import WIDTHS, exact, form_of, nearest, nearest_root, sample_measures, sample_rows, some_number, told
+from helper import (
+    WIDTHS, exact, form_of, fractions, nearest, nearest_root, sample_measures, sample_rows, some_number, told,
+)
 from trueline.numbers import is_measure, is_number
 from trueline.ratios import is_ratio
 from trueline.reckon import root
@@ -15,10 +17,6 @@ from trueline.truth import (
 )
 
 NOUGHT = (0, 0)
-
-
-def fractions(row):
-    return [exact(number) for number in row]
 
 
 def spread_of(row):
