@@ -3,9 +3,11 @@
 import copy
 import math
 import random
+import re
 from fractions import Fraction
 
 WIDTHS = (8, 9, 53, 64)
+NUMBER_TEXT = re.compile(r"(-?[0-9]*)(?:\.([0-9]*))?(?:e(-?[0-9]{1,3}))?")
 
 
 def told(fraction):
@@ -189,3 +191,62 @@ def check_weights(case, weights, lists):
     case.assertGreater([weight for weight in weights if weight != 0][0], 0, weights)
     for numbers in zip(*lists, strict=True):
         case.assertEqual(sum([weight * exact(number) for weight, number in zip(weights, numbers)]), 0, weights)
+
+
+def read_exactly(text):
+    """The fraction that a decimal text writes, or None."""
+    match = NUMBER_TEXT.fullmatch(text)
+    if match is None:
+        return None
+    ahead, behind, power = match.group(1), match.group(2) or "", match.group(3) or "0"
+    if not 1 <= len(ahead.lstrip("-") + behind) <= 40:
+        return None
+    return int(ahead + behind) * Fraction(10) ** (int(power) - len(behind))
+
+
+def text_of(whole, power, digits):
+    """A whole of so many figures, or the next power of ten, times ten to a power."""
+    figures = str(whole)
+    point = "." + figures[1:digits] if digits > 1 else ""
+    return figures[0] + point + "e" + str(power + len(figures) - 1)
+
+
+def texts_around(size, digits):
+    """The nearest texts of so many figures not above a size and not below it, found by comparing."""
+    power = len(str(size.numerator)) - len(str(size.denominator)) - digits + 1
+    while Fraction(10) ** (power + digits) <= size:
+        power += 1
+    while Fraction(10) ** (power + digits - 1) > size:
+        power -= 1
+    step = Fraction(10) ** power
+    return [text_of(whole, power, digits) for whole in (size // step, -(-size // step))]
+
+
+def nearest_of_texts(size, texts):
+    """The nearest text; of two equally near that whose last figure is even, of 9 and 1 the 1."""
+    far = [abs(read_exactly(text) - size) for text in texts]
+    chosen = [text for text, off in zip(texts, far) if off == min(far)]
+    even = [text for text in chosen if text.partition("e")[0][-1] in "02468"]
+    return (even or [text for text in chosen if text[0] == "1"] or chosen)[0]
+
+
+def text_with_sign(given, text):
+    return "-" + text if given < 0 else text
+
+
+def nearest_text(given, digits):
+    if given == 0:
+        return "0"
+    return text_with_sign(given, nearest_of_texts(abs(given), texts_around(abs(given), digits)))
+
+
+def briefest_text(given, width):
+    """With ever more figures, until a text beside the number is read as it."""
+    if given == 0:
+        return "0"
+    number, digits, texts = form_of(abs(given)), 0, []
+    while not texts:
+        digits += 1
+        around_it = texts_around(abs(given), digits)
+        texts = [text for text in around_it if nearest(read_exactly(text), width) == number]
+    return text_with_sign(given, nearest_of_texts(abs(given), texts))

@@ -96,6 +96,33 @@ class Form(unittest.TestCase):
                 bound += [target.id for target in row.targets] if isinstance(row, ast.Assign) else []
             self.assertEqual(len(bound), len(set(bound)), name)
 
+    def test_values_of_the_top(self):
+        plain = (ast.Constant, ast.Tuple, ast.List, ast.Dict, ast.Name, ast.UnaryOp, ast.USub, ast.Load)
+        for name, tree in self.trees.items():
+            above = []
+            for row in tree.body:
+                above += [row.name] if isinstance(row, ast.FunctionDef) else []
+                if isinstance(row, ast.Assign):
+                    nodes = list(ast.walk(row.value))
+                    for node in nodes:
+                        self.assertIsInstance(node, plain, f"{name}:{row.lineno}")
+                    self.assertLessEqual({node.id for node in nodes if isinstance(node, ast.Name)}, set(above), name)
+                    inner = [node for node in nodes[1:] if isinstance(node, (ast.List, ast.Dict))]
+                    self.assertEqual(inner, [], f"{name}:{row.lineno}")
+
+    def test_lists_of_the_top_are_only_read(self):
+        for name, tree in self.trees.items():
+            kept = [row.targets[0].id for row in tree.body
+                    if isinstance(row, ast.Assign) and isinstance(row.value, (ast.List, ast.Dict))]
+            read = []
+            for node in ast.walk(tree):
+                read += [node.value] if isinstance(node, ast.Subscript) and isinstance(node.ctx, ast.Load) else []
+                read += node.comparators if isinstance(node, ast.Compare) else []
+                read += [node.iter] if isinstance(node, (ast.For, ast.comprehension)) else []
+            for node in ast.walk(tree):
+                if isinstance(node, ast.Name) and node.id in kept and isinstance(node.ctx, ast.Load):
+                    self.assertTrue(any(node is one for one in read), f"{name}:{node.lineno}")
+
     def test_imports(self):
         for place, node in self.nodes(ast.ImportFrom):
             self.assertEqual(node.level, 0, place)
@@ -185,6 +212,41 @@ class Form(unittest.TestCase):
             for row in node.body:
                 if row is not docstring(node.body):
                     self.assertIsInstance(row, (ast.FunctionDef, ast.Pass), place)
+
+    def test_errors_are_the_programs_own(self):
+        own = {node.name for _, node in self.nodes(ast.ClassDef)}
+        for place, node in self.nodes(ast.ExceptHandler):
+            self.assertIsInstance(node.type, ast.Name, place)
+            self.assertIn(node.type.id, own | {"KeyError", "ZeroDivisionError", "StopIteration"}, place)
+        for place, node in self.nodes(ast.Raise):
+            self.assertIsInstance(node.exc, ast.Call, place)
+            self.assertIn(node.exc.func.id, own, place)
+            self.assertEqual(node.exc.keywords, [], place)
+
+    def test_values_of_objects(self):
+        methods = {row.name for _, node in self.nodes(ast.ClassDef)
+                   for row in node.body if isinstance(row, ast.FunctionDef)}
+        python = {name for kind in (str, int, list, dict, set, bytes) for name in dir(kind)}
+        for place, node in self.nodes(ast.Attribute):
+            if isinstance(node.ctx, ast.Store):
+                self.assertIsInstance(node.value, ast.Name, place)
+                self.assertNotIn(node.attr, methods | python, place)
+
+    def test_texts_with_names(self):
+        for place, node in self.nodes(ast.FormattedValue):
+            self.assertIsInstance(node.value, ast.Name, place)
+            self.assertIsNone(node.format_spec, place)
+
+    def test_sets_are_not_kept(self):
+        for name, tree in self.trees.items():
+            within = []
+            for node in ast.walk(tree):
+                if isinstance(node, ast.Call) and isinstance(node.func, ast.Name) and node.func.id in ("len", "sorted"):
+                    within += node.args[:1]
+            for node in ast.walk(tree):
+                self.assertNotIsInstance(node, ast.Set, name)
+                if isinstance(node, ast.Call) and isinstance(node.func, ast.Name) and node.func.id == "set":
+                    self.assertTrue(any(node is one for one in within), f"{name}:{node.lineno}")
 
     def test_names(self):
         own = {node.name for _, node in self.nodes(ast.FunctionDef)}

@@ -45,7 +45,15 @@ FUNCTIONS = {
         "line_of": ["row", "other"], "fitted": ["table", "places", "target"],
         "residues": ["table", "places", "target", "parts"], "misses": ["table", "places", "target", "parts"],
     },
+    "decimals": {"read_text": ["text"], "read_measure": ["text", "width"]},
+    "writing": {"written": ["given", "digits"], "briefest": ["number", "width"]},
+    # What the rows of the desk need besides: no name of it is promised.
+    "deskrows": {},
+    "desk": {"play": ["text"]},
 }
+
+# Of one stage, so that neither draws on the other.
+SIDE_BY_SIDE = ("decimals", "writing")
 
 
 class Interface(unittest.TestCase):
@@ -74,6 +82,7 @@ class Interface(unittest.TestCase):
             drawn = [row.module for row in tree.body if isinstance(row, ast.ImportFrom)]
             for module in drawn:
                 self.assertIn(module, ["trueline." + ahead for ahead in order[:place]])
+                self.assertFalse(name in SIDE_BY_SIDE and module[len("trueline."):] in SIDE_BY_SIDE, name)
 
 
 if __name__ == "__main__":
